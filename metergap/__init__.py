@@ -1,0 +1,1 @@
+"""Metergap: meters, seldom and wrongly read, and bills."""
