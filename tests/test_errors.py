@@ -27,7 +27,3 @@ class ErrorsTest(unittest.TestCase):
     def test_a_refusal_keeps_its_words(self):
         for refusal in REFUSALS:
             self.assertEqual(str(refusal("why")), "why")
-
-
-if __name__ == "__main__":
-    unittest.main()

@@ -261,7 +261,3 @@ class SizeAtTest(HistoryCase):
         told = struck(LONG, 25)
         self.assertEqual(size_at(told, 5), 10)
         self.assertEqual(size_at(told, 3), 100)
-
-
-if __name__ == "__main__":
-    unittest.main()

@@ -57,7 +57,3 @@ class InterfaceTest(unittest.TestCase):
         for path in folder.iterdir():
             if path.name != "__pycache__":
                 self.assertEqual(path.suffix, ".py")
-
-
-if __name__ == "__main__":
-    unittest.main()

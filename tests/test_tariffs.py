@@ -135,7 +135,3 @@ class CostTest(unittest.TestCase):
     def test_a_day_ahead_of_all_tariffs_costs_nothing(self):
         self.check_cost(tariff_on(ALL, 9), 1000, 0)
         self.check_cost(tariff_on(ALL, 10), 1000, 100 + 5 * 2 + 995 * 3)
-
-
-if __name__ == "__main__":
-    unittest.main()

@@ -128,7 +128,3 @@ class ShareTest(unittest.TestCase):
                 for at, number in enumerate(shares):
                     self.assertEqual(together, at * use // days)
                     together += number
-
-
-if __name__ == "__main__":
-    unittest.main()
