@@ -21,6 +21,23 @@ FUNCTIONS = {
         "struck": ["history", "day"],
         "size_at": ["history", "place"],
     },
+    "points": {
+        "points": ["history", "most"],
+        "spans": ["history", "most"],
+    },
+    "days": {
+        "use_on": ["history", "most", "day"],
+        "uses": ["history", "most", "low", "high"],
+        "known_to": ["history", "most"],
+    },
+    "bills": {
+        "owed": ["history", "most", "tariffs", "day"],
+        "billed": ["bills"],
+        "with_bill": ["history", "most", "tariffs", "bills", "day"],
+    },
+    "plays": {
+        "play": ["most", "deeds"],
+    },
 }
 
 
@@ -51,6 +68,23 @@ class InterfaceTest(unittest.TestCase):
         history = histories.changed_on(history=history, day=3, last=4, size=5, first=1)
         history = histories.struck(history=history, day=2)
         self.assertEqual(histories.size_at(history=history, place=2), 5)
+
+    def test_the_arguments_of_what_is_worked_out_go_by_their_names(self):
+        points = importlib.import_module("metergap.points")
+        days = importlib.import_module("metergap.days")
+        bills = importlib.import_module("metergap.bills")
+        plays = importlib.import_module("metergap.plays")
+        history = (("start", 1, 10, 2), ("read", 3, 6, False))
+        tariffs = ((0, 0, 1, 9, 9),)
+        self.assertEqual(points.points(history=history, most=5), [0, 1])
+        self.assertEqual(points.spans(history=history, most=5), [(1, 3, 4)])
+        self.assertEqual(days.use_on(history=history, most=5, day=2), 2)
+        self.assertEqual(days.uses(history=history, most=5, low=0, high=3), [0, 2, 2])
+        self.assertEqual(days.known_to(history=history, most=5), 3)
+        self.assertEqual(bills.owed(history=history, most=5, tariffs=tariffs, day=3), 4)
+        told = bills.with_bill(history=history, most=5, tariffs=tariffs, bills=(), day=4)
+        self.assertEqual(bills.billed(bills=told), 6)
+        self.assertEqual(plays.play(most=5, deeds=[("use", 1)]), ([0], ((), (), ())))
 
     def test_the_package_holds_source_files_alone(self):
         folder = pathlib.Path(__file__).parent.parent / "metergap"

@@ -2,15 +2,7 @@ import unittest
 
 from metergap.turning import gone, share, shown_then
 from tests.helper import check_number
-
-
-def counted_steps(size, one, other):
-    """By the words of the document: number after number, 0 behind the greatest."""
-    steps = 0
-    while one != other:
-        one = 0 if one == size - 1 else one + 1
-        steps += 1
-    return steps
+from tests.naive import steps_between
 
 
 class GoneTest(unittest.TestCase):
@@ -40,7 +32,7 @@ class GoneTest(unittest.TestCase):
             for one in range(size):
                 for other in range(size):
                     told = gone(size, one, other)
-                    self.assertEqual(told, counted_steps(size, one, other))
+                    self.assertEqual(told, steps_between(size, one, other))
                     check_number(self, told)
 
     def test_great_sizes(self):
